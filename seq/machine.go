@@ -13,11 +13,14 @@ const (
 	Puts  int64 = 1
 )
 
+// MaxWords is how many words all regions of a program have at most.
+const MaxWords = api.MaxRegions << api.MaxLog
+
 // State is what steps change and a run may come back to. It is one value without lists, so that setting it is a whole copy.
 type State struct {
 	Registers [api.Regs + 2]int64
 	// Words has those of all regions, one region behind the other, each at its word's number.
-	Words [api.MaxRegions << api.MaxLog]int64
+	Words [MaxWords]int64
 	// Next is the number of the next instruction.
 	Next int
 }
@@ -139,6 +142,11 @@ func (m *Machine) Number(i api.Ins) (int64, bool) {
 	}
 	start, end := int64(m.starts[i.C]), int64(m.starts[i.C+1])
 	return index + start, index >= 0 && index < end-start
+}
+
+// HasWord tells whether number is that of a word of any region.
+func (m *Machine) HasWord(number int64) bool {
+	return number >= 0 && number < int64(m.starts[len(m.Regions)])
 }
 
 // Told gives what the run has shown, with the words as they are now, cut into regions of memory of their own.
